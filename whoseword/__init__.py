@@ -1,0 +1,1 @@
+"""Whoseword: what is sure when some sayings are wrong."""
