@@ -8,14 +8,14 @@ MOST_LETTERS = 8
 WORDS = ("same", "other")
 
 
-def is_integer(value):
+def is_an_integer(value):
     """Tell whether the value, which may be any value, is an integer (point 3)."""
     return isinstance(value, int) and not isinstance(value, bool)
 
 
 def is_record(records, value):
     """Tell whether the value, which may be any value, is one of so many records."""
-    return is_integer(value) and 0 <= value < records
+    return is_an_integer(value) and 0 <= value < records
 
 
 def is_teller(value):
@@ -44,7 +44,7 @@ class Matter:
     """A number of records, and a list of sayings of them."""
 
     def __init__(self, records, sayings):
-        if not is_integer(records) or not 1 <= records <= MOST_RECORDS:
+        if not is_an_integer(records) or not 1 <= records <= MOST_RECORDS:
             raise BadMatter(None)
         if not isinstance(sayings, list) or len(sayings) > MOST_SAYINGS:
             raise BadMatter(None)
