@@ -13,9 +13,26 @@ def is_an_integer(value):
     return isinstance(value, int) and not isinstance(value, bool)
 
 
+def is_number(many, value):
+    """Tell whether the value, which may be any value, is the number of one of so many things."""
+    return is_an_integer(value) and 0 <= value < many
+
+
+def is_ascending(low, high, value):
+    """Tell whether the value, which may be any value, is an ascending tuple of integers from low to below high."""
+    if not isinstance(value, tuple):
+        return False
+    least = low
+    for number in value:
+        if not is_number(high, number) or number < least:
+            return False
+        least = number + 1
+    return True
+
+
 def is_record(records, value):
     """Tell whether the value, which may be any value, is one of so many records."""
-    return is_an_integer(value) and 0 <= value < records
+    return is_number(records, value)
 
 
 def is_teller(value):
