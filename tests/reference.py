@@ -1,4 +1,4 @@
-"""What the document says of rings, lots, trees and truths that fit, told by going through all truths."""
+"""What the document says of rings, lots, trees, askings and truths that fit, told by going through all truths."""
 
 from random import Random
 
@@ -114,6 +114,25 @@ def told_tree(matter, left, most, value, by):
         if first >= second or not same or not apart:
             return False
         return told_tree(matter, same, most, one, by) and told_tree(matter, apart, most, other, by)
+    return False
+
+
+def told_askings(matter, left, value):
+    """Whether it is a tree of askings, if just these truths fit."""
+    if type(value) is not tuple:
+        return False
+    if len(value) == 2 and value[0] == "one":
+        truth = value[1]
+        if type(truth) is not tuple or not all(type(record) is int for record in truth):
+            return False
+        return left == [truth]
+    if len(value) == 5 and value[0] == "ask":
+        _, first, second, one, other = value
+        if not is_integer(first, 0, matter.records()) or not is_integer(second, first + 1, matter.records()):
+            return False
+        same = [truth for truth in left if holds(matter.records(), truth, (first, second, "same"))]
+        apart = [truth for truth in left if truth not in same]
+        return bool(same and apart) and told_askings(matter, same, one) and told_askings(matter, apart, other)
     return False
 
 
